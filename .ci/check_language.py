@@ -29,6 +29,10 @@ NOT_ALLOWED = (
     ast.Global, ast.AsyncFunctionDef, ast.AsyncFor, ast.AsyncWith, ast.Await, ast.GeneratorExp, ast.Div,
     ast.Import, ast.AnnAssign)
 COMPREHENSIONS = (ast.ListComp, ast.DictComp, ast.SetComp)
+NO_ATTRIBUTES = set(
+    "items keys values pop update append clear extend insert remove reverse setdefault sort args encode "
+    "decode hex fromhex format format_map mro as_integer_ratio bit_count conjugate from_bytes "
+    "is_integer to_bytes".split())
 
 
 def docstrings(tree):
@@ -89,6 +93,9 @@ def value_faults(node, docs, names, own):
             yield "L25 the method " + node.func.attr
     if isinstance(node, ast.Set) and len(node.elts) > 2:
         yield "L13 a set"
+    if isinstance(node, ast.BinOp) and isinstance(node.op, ast.Pow):
+        if not isinstance(node.right, ast.Constant):
+            yield "L27 an exponent"
 
 
 def shape_faults(node, module):
@@ -105,6 +112,66 @@ def shape_faults(node, module):
             if isinstance(sign, (ast.Is, ast.IsNot)):
                 if not isinstance(side, ast.Constant) or side.value not in (None, True, False):
                     yield "L20 is"
+
+
+def attributes_of(each):
+    """The names of the attributes that the methods of a class assign to their own objects."""
+    return {
+        node.attr for node in ast.walk(each)
+        if isinstance(node, ast.Attribute) and isinstance(node.ctx, ast.Store)}
+
+
+def class_faults(each):
+    methods = {node.name for node in each.body if isinstance(node, ast.FunctionDef)}
+    for name in sorted(methods & attributes_of(each)):
+        yield each.lineno, "L18 a method and an attribute " + name
+    for name in sorted(attributes_of(each) & NO_ATTRIBUTES):
+        yield each.lineno, "L26 the attribute " + name
+
+
+def level_names(module):
+    """The names bound at module level, each as often as it is."""
+    found = [name for node in module.body for name in bound_names(node)]
+    for node in module.body:
+        if isinstance(node, ast.Assign):
+            found += [name for target in node.targets for name in bound_names(target)]
+        if isinstance(node, ast.ImportFrom):
+            found += [name for alias in node.names for name in bound_names(alias)]
+    return found
+
+
+def binding_faults(module):
+    """Names bound twice, and names within functions that a class or an import of the file has, too."""
+    names = level_names(module)
+    for name in sorted(set(names)):
+        if names.count(name) > 1:
+            yield 0, "L15 bound twice: " + name
+    taken = {node.name for node in module.body if isinstance(node, ast.ClassDef)}
+    for node in module.body:
+        if isinstance(node, ast.ImportFrom):
+            taken |= {name for alias in node.names for name in bound_names(alias)}
+    for top in module.body:
+        if isinstance(top, (ast.FunctionDef, ast.ClassDef)):
+            for node in ast.walk(top):
+                if isinstance(node, (ast.arg, ast.Name)):
+                    for name in bound_names(node):
+                        if name in taken:
+                            yield node.lineno, "L15 the name " + name
+
+
+def import_faults(module):
+    """Imports from a file that does not define the name itself, or that are not used."""
+    used = {node.id for node in ast.walk(module) if isinstance(node, ast.Name)}
+    for node in module.body:
+        if isinstance(node, ast.ImportFrom) and node.module.startswith(PACKAGE + "."):
+            other = ast.parse(Path(node.module.replace(".", "/") + ".py").read_text(encoding="utf-8"))
+            own = [each for each in other.body if not isinstance(each, ast.ImportFrom)]
+            defined = level_names(ast.Module(own, []))
+            for name in node.names:
+                if name.name not in defined:
+                    yield node.lineno, "L16 not defined there: " + name.name
+                if name.name not in used:
+                    yield node.lineno, "not used: " + name.name
 
 
 def level_faults(module):
@@ -125,6 +192,10 @@ def file_faults(path, own):
     names = {name for node in ast.walk(module) for name in bound_names(node)}
     yield from text_faults(text.split("\n"))
     yield from level_faults(module)
+    yield from binding_faults(module)
+    yield from import_faults(module)
+    for each in classes:
+        yield from class_faults(each)
     for node in ast.walk(module):
         at = getattr(node, "lineno", 0)
         faults = list(name_faults(node, methods)) + list(value_faults(node, docs, names, own))

@@ -10,3 +10,8 @@ def is_number(thing):
 def is_tuple_of_numbers(thing):
     """Whether a thing is a tuple of numbers alone, perhaps of none."""
     return isinstance(thing, tuple) and all([is_number(item) for item in thing])
+
+
+def is_list_or_tuple(thing):
+    """Whether a thing is a list or a tuple."""
+    return isinstance(thing, (list, tuple))

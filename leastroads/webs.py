@@ -75,6 +75,12 @@ def neighbours(web, house):
     return tuple(sorted(lesser + greater))
 
 
+def ties_of(web, house):
+    """The dict of the ranks of a house's ties, under its neighbours, these ascending."""
+    ranks = ranks_by_pair(web)
+    return {other: ranks[(min(house, other), max(house, other))] for other in neighbours(web, house)}
+
+
 def rank(web, one, other):
     """The rank of the tie between two houses, in whatever order they are told."""
     require_house(web, one)

@@ -3,7 +3,7 @@
 import inspect
 import unittest
 
-from leastroads import trees, webs
+from leastroads import ends, glass, states, trees, webs
 
 FUNCTIONS = {
     webs: {
@@ -14,6 +14,16 @@ FUNCTIONS = {
         "weight_of": ["web", "tree"], "paper_of": ["web", "tree"],
         "is_paper": ["web", "tree", "thing"], "better": ["web", "tree"],
     },
+    states: {
+        "begun": ["web", "house"], "is_word": ["web", "thing"], "is_state": ["web", "house", "thing"],
+        "woken": ["web", "house", "state"], "heard": ["web", "house", "state", "sender", "word"],
+    },
+    glass: {
+        "first_glass": ["web"], "moved": ["web", "glass", "move"], "is_glass": ["web", "thing"],
+        "moves": ["web", "glass"], "marked": ["web", "glass"], "fragments": ["web", "glass"],
+        "broken": ["web", "glass"],
+    },
+    ends: {"run_out": ["web", "choices"], "bounds": ["web"]},
 }
 
 
