@@ -61,19 +61,17 @@ def moves(web, glass):
     return Run(web, glass).open_moves()
 
 
-def has_form_of_move(thing):
-    """Whether a thing is a name and numbers, as each move is."""
-    if not isinstance(thing, tuple) or len(thing) == 0:
-        return False
-    return isinstance(thing[0], str) and is_tuple_of_numbers(thing[1:])
+def is_open_move(run, thing):
+    """Whether a thing is one of the moves that can be next."""
+    # ("wake", True) is none, though Python holds it to be equal to ("wake", 1).
+    return thing in run.open_moves() and is_tuple_of_numbers(thing[1:])
 
 
 def moved(web, glass, move):
     """The glass behind a move."""
     require_glass(web, glass)
     run = Run(web, glass)
-    # Without the form ("wake", True) would be taken for ("wake", 1), as Python compares.
-    if not has_form_of_move(move) or move not in run.open_moves():
+    if not is_open_move(run, move):
         raise NoMove()
     if move[0] == "take" and not run.would_hear(move[1], move[2]):
         raise NoMove()

@@ -20,7 +20,7 @@ class Run:
         """The glass that it stands at."""
         return (tuple(self.states), self.on_way.triples())
 
-    def stage(self, number):
+    def stage_of(self, number):
         """The stage of a house."""
         return self.states[number][0]
 
@@ -78,7 +78,7 @@ def events_of(run, move):
     number = move[-1]
     event = move if move[0] == "wake" else move + (run.on_way.first(move[1], number),)
     run.make(move)
-    return [event, ("over", number)] if run.stage(number) == "over" else [event]
+    return [event, ("over", number)] if run.stage_of(number) == "over" else [event]
 
 
 def played(web, choices):

@@ -29,7 +29,7 @@ def is_level(thing):
 
 def is_rank(ranks, thing):
     """Whether a thing is one of the ranks, which stand under their pairs."""
-    return is_tuple_of_numbers(thing) and len(thing) == 3 and ranks.get(thing[1:]) == thing
+    return is_tuple_of_numbers(thing) and ranks.get(thing[1:]) == thing
 
 
 def is_part(ranks, part, thing):

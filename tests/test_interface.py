@@ -3,7 +3,7 @@
 import inspect
 import unittest
 
-from leastroads import ends, glass, states, trees, webs
+from leastroads import ends, glass, links, records, rows, states, trees, waves, webs
 
 FUNCTIONS = {
     webs: {
@@ -24,6 +24,30 @@ FUNCTIONS = {
         "broken": ["web", "glass"],
     },
     ends: {"run_out": ["web", "choices"], "bounds": ["web"]},
+    records: {
+        "first_wrong": ["record"], "glass_then": ["record", "at"], "causes": ["record"],
+        "vectors": ["record"], "seen": ["record", "house"], "longest_chain": ["record"],
+        "is_alike": ["record", "thing"], "by_least": ["record"], "recorded": ["web", "choices"],
+    },
+    links: {"outgoing_of": ["state"], "incoming_of": ["state"]},
+    rows: {
+        "row_of": ["parcel"], "sealed": ["parcel"], "parcel_of": ["row"], "is_parcel": ["thing"],
+        "mark": ["row"], "unsealed": ["row"],
+    },
+}
+# For each class what it is made with, and its methods with what they are passed.
+CLASSES = {
+    webs: {"Web": (["many", "ties"], {"__eq__": ["other"]})},
+    waves: {"Wave": (["web", "tree", "values"], {
+        "want": ["house"], "take": ["one", "other"], "answer": ["house"], "ways": [], "taken": [], "copy": [],
+    })},
+    records: {"Record": (["web", "events"], {"__eq__": ["other"]})},
+    links: {
+        "Outgoing": ([], {
+            "put": ["thing"], "known": ["number"], "many_put": [], "waiting": [], "state": [], "copy": [],
+        }),
+        "Incoming": ([], {"take": ["number", "thing"], "taken": [], "held": [], "state": [], "copy": []}),
+    },
 }
 
 
@@ -36,11 +60,17 @@ class Interface(unittest.TestCase):
                     self.assertEqual(call.__module__, module.__name__)
                     self.assertEqual(list(inspect.signature(call).parameters), arguments)
 
-    def test_the_class_web_is_defined_in_its_file_with_its_own_equality(self):
-        self.assertEqual(webs.Web.__module__, "leastroads.webs")
-        self.assertEqual(list(inspect.signature(webs.Web).parameters), ["many", "ties"])
-        self.assertIn("__eq__", vars(webs.Web))
-        self.assertIn("__init__", vars(webs.Web))
+    def test_classes_are_defined_in_their_files_with_their_own_methods(self):
+        for module, classes in CLASSES.items():
+            for name, (arguments, methods) in classes.items():
+                with self.subTest(name):
+                    kind = getattr(module, name)
+                    self.assertEqual(kind.__module__, module.__name__)
+                    self.assertEqual(list(inspect.signature(kind).parameters), arguments)
+                    self.assertIn("__init__", vars(kind))
+                    for method, passed in methods.items():
+                        self.assertIn(method, vars(kind))
+                        self.assertEqual(list(inspect.signature(vars(kind)[method]).parameters), ["self"] + passed)
 
 
 if __name__ == "__main__":

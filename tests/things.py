@@ -1,6 +1,9 @@
 """Things of all kinds that may be passed where the document names an error or judges."""
 
 from leastroads.errors import BadWeb, NoHouse
+from leastroads.links import Incoming, Outgoing
+from leastroads.records import Record
+from leastroads.waves import Wave
 from leastroads.webs import Web
 
 
@@ -24,6 +27,7 @@ def odd_things():
         (None,), (True,), (False, True), (False, True, 5), ("0", "1", "5"), (0, [1], 5), ((), (), ()),
         range(3), slice(0, 1), some_function, len, Web, int, ValueError("x"),
         BadWeb("many"), NoHouse(), Web(1, ()), Web(2, ((0, 1, 5),)), [Web(2, ((0, 1, 5),))],
+        Record(Web(1, ()), (("wake", 0),)), Wave(Web(1, ()), (), (0,)), Outgoing(), Incoming(), Record, Wave,
         nested(39, lambda thing: (thing,)), nested(39, lambda thing: [thing]),
         nested(39, lambda thing: {0: thing}), nested(20, lambda thing: ([thing],)),
         nested(20, lambda thing: (0, (thing, 5))), (None,) * 19999, [0] * 19999, (True, 1) * 9999,
