@@ -14,12 +14,12 @@ BUILTINS = set(
     "len range enumerate zip min max sum abs sorted reversed int str bool bytes list tuple dict set "
     "isinstance ord repr any all divmod pow iter next map Exception ValueError TypeError KeyError "
     "IndexError LookupError ZeroDivisionError ArithmeticError OverflowError RuntimeError "
-    "NotImplementedError AttributeError StopIteration".split())
+    "NotImplementedError AttributeError StopIteration super".split())
 METHODS = set(
     "append clear copy count endswith extend find get index insert isalnum isalpha isdigit islower "
     "isspace isupper items join keys ljust lower lstrip partition pop remove replace reverse rfind "
     "rjust rpartition rsplit rstrip setdefault split splitlines startswith strip update upper values "
-    "zfill bit_length add discard __init__".split())
+    "zfill bit_length add discard isascii __init__".split())
 DUNDERS = set("__init__ __eq__ __repr__ __str__ __len__".split())
 BARRED = re.compile(
     r"(?<!\w)(type|typing|typing_extensions|enum|Enum|IntEnum|StrEnum|Flag|IntFlag|Generic|Protocol|ABC"

@@ -2,8 +2,8 @@
 
 from leastroads.errors import NoGlass, NoMove
 from leastroads.groups import group_marks
-from leastroads.kinds import is_number, is_tuple_of_numbers
-from leastroads.runs import Run, run_from_first
+from leastroads.kinds import is_number
+from leastroads.runs import Run, can_make, run_from_first
 from leastroads.states import has_form_of_word, is_state
 from leastroads.trees import least_tree
 from leastroads.webs import neighbours, ranks_by_pair
@@ -61,19 +61,11 @@ def moves(web, glass):
     return Run(web, glass).open_moves()
 
 
-def is_open_move(run, thing):
-    """Whether a thing is one of the moves that can be next."""
-    # ("wake", True) is none, though Python holds it to be equal to ("wake", 1).
-    return thing in run.open_moves() and is_tuple_of_numbers(thing[1:])
-
-
 def moved(web, glass, move):
     """The glass behind a move."""
     require_glass(web, glass)
     run = Run(web, glass)
-    if not is_open_move(run, move):
-        raise NoMove()
-    if move[0] == "take" and not run.would_hear(move[1], move[2]):
+    if not can_make(run, move):
         raise NoMove()
     run.make(move)
     return run.stands()

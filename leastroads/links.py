@@ -75,11 +75,16 @@ class Outgoing:
         return other
 
 
+def is_outgoing_state(thing):
+    """Whether a thing is a state of an Outgoing."""
+    if not is_pair(thing) or not is_link_number(thing[0]) or not isinstance(thing[1], tuple):
+        return False
+    return all([is_thing(item) for item in thing[1]])
+
+
 def outgoing_of(state):
     """The Outgoing with this state."""
-    if not is_pair(state) or not is_link_number(state[0]) or not isinstance(state[1], tuple):
-        raise NoState()
-    if not all([is_thing(thing) for thing in state[1]]):
+    if not is_outgoing_state(state):
         raise NoState()
     end = Outgoing()
     end.many_known = state[0]
@@ -141,9 +146,14 @@ def are_held(taken, thing):
     return True
 
 
+def is_incoming_state(thing):
+    """Whether a thing is a state of an Incoming."""
+    return is_pair(thing) and is_link_number(thing[0]) and are_held(thing[0], thing[1])
+
+
 def incoming_of(state):
     """The Incoming with this state."""
-    if not is_pair(state) or not is_link_number(state[0]) or not are_held(state[0], state[1]):
+    if not is_incoming_state(state):
         raise NoState()
     end = Incoming()
     end.many_taken = state[0]

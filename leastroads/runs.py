@@ -3,7 +3,7 @@
 from leastroads.deeds import hear, is_none_then
 from leastroads.errors import NoChoices
 from leastroads.houses import House
-from leastroads.kinds import is_list_or_tuple, is_number
+from leastroads.kinds import is_list_or_tuple, is_number, is_tuple_of_numbers
 from leastroads.states import begun
 from leastroads.ways import ways_of
 
@@ -55,6 +55,14 @@ class Run:
 def run_from_first(web):
     """A run that stands at the first glass."""
     return Run(web, (tuple([begun(web, house) for house in range(web.many)]), ()))
+
+
+def can_make(run, thing):
+    """Whether a thing is a move that can be made then."""
+    # ("wake", True) is none, though Python holds it to be equal to ("wake", 1).
+    if thing not in run.open_moves() or not is_tuple_of_numbers(thing[1:]):
+        return False
+    return thing[0] == "wake" or run.would_hear(thing[1], thing[2])
 
 
 def require_choices(choices):

@@ -37,6 +37,11 @@ def require_tree(web, thing):
         raise NoTree()
 
 
+def tied_in(tree, house):
+    """The houses to which a house is tied in a tree, ascending."""
+    return sorted([b for a, b in tree if a == house] + [a for a, b in tree if b == house])
+
+
 def way_between(tree, one, other):
     """The way in a tree between two houses, all known to be what they should be."""
     ways = {one: (one,)}

@@ -1,7 +1,7 @@
 """Waves: a house wants numbers of all houses, and gathers them over the tree."""
 
 from leastroads.errors import NoValues, NoWay, Wanted
-from leastroads.trees import require_tree
+from leastroads.trees import require_tree, tied_in
 from leastroads.ways import Ways
 from leastroads.webs import require_house
 
@@ -26,11 +26,6 @@ def are_values(web, thing):
 def put_together(one, other):
     """What is gathered of two parts: how many houses, the sum, the least, the greatest."""
     return (one[0] + other[0], one[1] + other[1], min(one[2], other[2]), max(one[3], other[3]))
-
-
-def tied_in(tree, house):
-    """The houses to which a house is tied in a tree, ascending."""
-    return sorted([b for a, b in tree if a == house] + [a for a, b in tree if b == house])
 
 
 class Wave:
