@@ -11,8 +11,8 @@ NOTHING = "-"
 
 
 def rank_text(rank):
-    """A rank as it is written, also () and None in its place."""
-    if rank == () or rank is None:
+    """A rank as it is written, also () in its place."""
+    if rank == ():
         return NOTHING
     return ":".join([str(number) for number in rank])
 

@@ -3,7 +3,9 @@
 import inspect
 import unittest
 
-from leastroads import ends, glass, links, records, rows, states, trees, waves, webs
+from leastroads import (
+    desks, disks, ends, films, glass, links, nets, posts, records, rows, savings, states, texts, trees, waves, webs,
+)
 
 FUNCTIONS = {
     webs: {
@@ -34,7 +36,16 @@ FUNCTIONS = {
         "row_of": ["parcel"], "sealed": ["parcel"], "parcel_of": ["row"], "is_parcel": ["thing"],
         "mark": ["row"], "unsealed": ["row"],
     },
+    disks: {"kept_parcels": ["blocks"]},
+    posts: {"post_of": ["web", "number", "past"]},
+    nets: {"led_by": ["net", "deeds"], "round_trip": ["net"], "settle": ["net", "most"]},
+    texts: {
+        "web_text": ["web"], "tree_text": ["tree"], "moves_text": ["moves"], "record_text": ["record"],
+        "read_web": ["text"], "read_tree": ["text"], "read_moves": ["text"], "read_record": ["text"],
+    },
+    films: {"drawn_marks": ["web", "glass"], "drawn": ["web", "glass"], "drawn_tree": ["web", "tree"]},
 }
+POST = {"state": [], "past": [], "letter": ["to"], "deed": ["thing"], "copy": []}
 # For each class what it is made with, and its methods with what they are passed.
 CLASSES = {
     webs: {"Web": (["many", "ties"], {"__eq__": ["other"]})},
@@ -48,6 +59,16 @@ CLASSES = {
         }),
         "Incoming": ([], {"take": ["number", "thing"], "taken": [], "held": [], "state": [], "copy": []}),
     },
+    disks: {"Disk": ([], {
+        "write": ["row"], "sync": [], "synced": [], "blocks": [], "cut": ["kept"], "drop": ["number"], "copy": [],
+    })},
+    posts: {"Post": (["web", "number"], POST)},
+    savings: {"SavedHouse": (["web", "number", "disk"], {**POST, "keep": [], "moved": ["disk"]})},
+    nets: {"Net": (["web"], {"house": ["number"], "disk": ["number"], "bag": [], "glass": [], "deed": ["thing"]})},
+    films: {"Reel": (["web", "moves", "every"], {
+        "stands": [], "worked": [], "glass_there": [], "seek": ["at"], "kept": [], "copy": [],
+    })},
+    desks: {"Desk": ([], {"tell": ["line"]})},
 }
 
 
@@ -71,6 +92,13 @@ class Interface(unittest.TestCase):
                     for method, passed in methods.items():
                         self.assertIn(method, vars(kind))
                         self.assertEqual(list(inspect.signature(vars(kind)[method]).parameters), ["self"] + passed)
+
+    def test_a_saved_house_is_a_post_and_no_other_class_has_a_base(self):
+        self.assertEqual(savings.SavedHouse.__bases__, (posts.Post,))
+        for module, classes in CLASSES.items():
+            for name in classes:
+                if name != "SavedHouse":
+                    self.assertEqual(getattr(module, name).__bases__, (object,))
 
 
 if __name__ == "__main__":

@@ -212,7 +212,8 @@ class NoLetter(unittest.TestCase, Exactly):
     def test_parcels_that_are_no_letters(self):
         post = self.woken()
         for parcel in [
-                None, True, 0, "letter", (), ("letter",), ("letter", 1, 0, 1), ("letter", 1, 0, 1, (), ()), (1, 0, 1, ()),
+                None, True, 0, "letter", (), ("letter",), ("letter", 1, 0, 1), ("letter", 1, 0, 1, (), ()),
+                (1, 0, 1, ()),
                 ("Letter", 1, 0, 1, ()), (("letter",), 1, 0, 1, ()), (None, 1, 0, 1, ()), ("hear", 1, 0, 1, ()),
                 ("deed", ("wake",)), ("letter", 1, 0, (), 1)]:
             self.none(post, sealed(parcel))
@@ -246,8 +247,10 @@ class NoLetter(unittest.TestCase, Exactly):
 
     def test_words(self):
         for word in (
-                None, True, "join", (), ("join",), ("join", 10), ("join", True), ("join", -1), ("Join", 0), ("join", 0, 0),
-                ("begin", 1, (5, 0, 1), 2), ("begin", 1, (5, 0, 1), True), ("begin", 1, (), 1), ("begin", 1, (4, 0, 1), 1),
+                None, True, "join", (), ("join",), ("join", 10), ("join", True), ("join", -1), ("Join", 0),
+                ("join", 0, 0),
+                ("begin", 1, (5, 0, 1), 2), ("begin", 1, (5, 0, 1), True), ("begin", 1, (), 1),
+                ("begin", 1, (4, 0, 1), 1),
                 ("ask", 1, (5, 1, 0)), ("ask", 1), ("ask", 1, None), ("yes", 1), ("report",), ("report", None),
                 ("report", (5, False, 1)), ("over", 0), ("turn", ()), ("wake",), (("join", 0),)):
             self.none(self.woken(), letter(1, 0, 0, (0, word)))
@@ -349,10 +352,10 @@ class Deeds(unittest.TestCase, Exactly):
     def test_no_deed(self):
         row = letter(1, 0, 0, (0, JOIN))
         wrong = odd_things() + [
-            "wake", ["wake"], ("wake", 0), ("wake", ()), ("Wake",), (("wake",),), ("hear",), ("hear", row, row), ["hear", row],
-            ("hear", list(row)), ("hear", None), ("hear", row + (256,)), ("hear", row + (True,)), ("hear", (row,)),
-            ("hear", "row"), ("tell", row), (None, row), ("hear", {0: 1}), ("keep",), ("hear", Web(1, ())), (True,),
-            ("hear", -1)]
+            "wake", ["wake"], ("wake", 0), ("wake", ()), ("Wake",), (("wake",),), ("hear",), ("hear", row, row),
+            ["hear", row], ("hear", list(row)), ("hear", None), ("hear", row + (256,)), ("hear", row + (True,)),
+            ("hear", (row,)), ("hear", "row"), ("tell", row), (None, row), ("hear", {0: 1}), ("keep",),
+            ("hear", Web(1, ())), (True,), ("hear", -1)]
         for post in (Post(THREE, 0), post_of(THREE, 0, (FOUND, ((0, ()), (5, (JOIN,))), ((0, ()), (1, ((4, JOIN),)))))):
             ahead = post.past()
             for thing in wrong:
@@ -411,7 +414,8 @@ class Pasts(unittest.TestCase, Exactly):
         past = (FOUND, outs, ins)
         self.exactly(post_of(THREE, 0, past).past(), past)
         kept = 0
-        for thing in odd_things() + [0, 5, LIMIT - 1, LIMIT, (JOIN,), ((5, JOIN),), ((3, JOIN),), ("no",), "over", ("join", 10)]:
+        for thing in odd_things() + [0, 5, LIMIT - 1, LIMIT, (JOIN,), ((5, JOIN),), ((3, JOIN),), ("no",), "over",
+                ("join", 10)]:
             for other in self.otherwise(past, thing):
                 if slow_is_past(THREE, 0, other):
                     self.exactly(post_of(THREE, 0, other).past(), other)

@@ -27,10 +27,8 @@ WORDS = (
     ("report", ()), ("report", (7, 0, 2)), ("turn",), ("over",))
 EVENTS = (("wake", 2), ("over", 0)) + tuple(("take", 0, 2, word) for word in WORDS)
 TEXTS = {
-    "web": "houses 3\ntie 0 1 5\ntie 0 2 7\ntie 1 2 6\n",
-    "tree": "tree\nbranch 0 1\nbranch 1 2\n",
-    "moves": "wake 0\ntake 0 1\nwake 2\n",
-    "record": "".join([
+    "web": "houses 3\ntie 0 1 5\ntie 0 2 7\ntie 1 2 6\n", "tree": "tree\nbranch 0 1\nbranch 1 2\n",
+    "moves": "wake 0\ntake 0 1\nwake 2\n", "record": "".join([
         "houses 3\ntie 0 1 5\ntie 0 2 7\ntie 1 2 6\nwake 2\nover 0\ntake 0 2 join 0\ntake 0 2 begin 9 5:0:1 1\n",
         "take 0 2 begin 0 7:0:2 0\ntake 0 2 ask 3 6:1:2\ntake 0 2 yes\ntake 0 2 no\ntake 0 2 report -\n",
         "take 0 2 report 7:0:2\ntake 0 2 turn\ntake 0 2 over\n"]),
@@ -38,9 +36,10 @@ TEXTS = {
 FIGURES = "98765432109876543210"
 # What may stand in a line in the place of one of its words.
 ODD_WORDS = (
-    "", "-", "0", "00", "01", "+1", "-1", "1.0", "1_0", "x", "1x", FIGURES, FIGURES + "0", "0" * 21, "5:0:1", "5:0", "5:0:1:2",
-    "05:0:1", "5:+0:1", "5::1", ":", "::", "5:0:1:", FIGURES + "1:0:1", "()", "None", "True", "\t", "1\t", "tie", "houses", "tree",
-    "branch", "wake", "take", "over", "join", "yes", "report", "Wake", "wakes", "\u00b2", "\u0661", "1\u00a0", "\r", "1\r")
+    "", "-", "0", "00", "01", "+1", "-1", "1.0", "1_0", "x", "1x", FIGURES, FIGURES + "0", "0" * 21, "5:0:1", "5:0",
+    "5:0:1:2", "05:0:1", "5:+0:1", "5::1", ":", "::", "5:0:1:", FIGURES + "1:0:1", "()", "None", "True", "\t", "1\t",
+    "tie", "houses", "tree", "branch", "wake", "take", "over", "join", "yes", "report", "Wake", "wakes", "\u00b2",
+    "\u0661", "1\u00a0", "\r", "1\r")
 
 
 def told(read, text):
@@ -195,12 +194,13 @@ class WrongLines(unittest.TestCase, Exactly):
 
     def test_by_hand(self):
         cases = [
-            ("web", "", 1), ("web", "\n", 1), ("web", "houses 3", 1), ("web", "houses 1\n\n", 2), ("web", "houses 01\n", 1),
-            ("web", "houses 1 \n", 1), ("web", "houses 2\ntie 0 1 5", 2), ("web", "houses 2\ntie 0 1 5\ntie", 3),
-            ("web", "tie 0 1 5\n", 1), ("web", "houses 2\nhouses 2\n", 2), ("web", "houses 2\nwake 0\n", 2),
-            ("web", "houses 2\ntie 0  1 5\n", 2), ("web", "houses 2\ntie 0 1\n", 2), ("web", "houses -2\n", 1),
-            ("web", "houses 2\ntie 0 1 5\r\n", 2), ("web", "houses 100000000000000000000\n", 1), ("tree", "", 1),
-            ("tree", "tree", 1), ("tree", "tree 0\n", 1), ("tree", "tree\nbranch 0\n", 2), ("tree", "branch 0 1\n", 1),
+            ("web", "", 1), ("web", "\n", 1), ("web", "houses 3", 1), ("web", "houses 1\n\n", 2),
+            ("web", "houses 01\n", 1), ("web", "houses 1 \n", 1), ("web", "houses 2\ntie 0 1 5", 2),
+            ("web", "houses 2\ntie 0 1 5\ntie", 3), ("web", "tie 0 1 5\n", 1), ("web", "houses 2\nhouses 2\n", 2),
+            ("web", "houses 2\nwake 0\n", 2), ("web", "houses 2\ntie 0  1 5\n", 2), ("web", "houses 2\ntie 0 1\n", 2),
+            ("web", "houses -2\n", 1), ("web", "houses 2\ntie 0 1 5\r\n", 2),
+            ("web", "houses 100000000000000000000\n", 1), ("tree", "", 1), ("tree", "tree", 1),
+            ("tree", "tree 0\n", 1), ("tree", "tree\nbranch 0\n", 2), ("tree", "branch 0 1\n", 1),
             ("tree", "tree\ntree\n", 2), ("moves", "\n", 1), ("moves", "wake 0", 1), ("moves", "wake 0\nover 0\n", 2),
             ("moves", "take 0 1 yes\n", 1), ("moves", "wake 0\ntake 0\n", 2), ("moves", " ", 1), ("record", "", 1),
             ("record", "wake 0\n", 1), ("record", "houses 1\nwake 0\nhouses 1\n", 3),
@@ -223,7 +223,8 @@ class WrongLines(unittest.TestCase, Exactly):
                     self.exactly(self.refused(BadText, read, thing).line, 0)
 
     def test_odd_strings(self):
-        for text in ("", "\n" * 20000, " " * 20000, "0" * 20000, "wake 0\n" * 2857, "houses " + "1" * 19000 + "\n", "\0", "%"):
+        for text in ("", "\n" * 20000, " " * 20000, "0" * 20000, "wake 0\n" * 2857, "houses " + "1" * 19000 + "\n",
+                "\0", "%"):
             for kind in READERS:
                 self.same(kind, text)
 
@@ -240,10 +241,11 @@ class WrongLines(unittest.TestCase, Exactly):
 class WrongWebsAndRecords(unittest.TestCase, Exactly):
     def test_webs(self):
         cases = [
-            ("houses 0\n", "many"), ("houses 11\n", "many"), ("houses " + FIGURES + "\n", "many"), ("houses 2\n", "joined"),
-            ("houses 11\ntie 1 0 5\n", "many"), ("houses 2\ntie 1 0 5\n", 0), ("houses 2\ntie 0 1 1000000\n", 0),
-            ("houses 2\ntie 0 2 5\n", 0), ("houses 3\ntie 0 1 5\ntie 0 1 6\n", 1), ("houses 3\ntie 0 2 5\ntie 0 1 6\n", 1),
-            ("houses 3\ntie 0 1 5\n", "joined"), ("houses 2\ntie 0 1 " + FIGURES + "\n", 0)]
+            ("houses 0\n", "many"), ("houses 11\n", "many"), ("houses " + FIGURES + "\n", "many"),
+            ("houses 2\n", "joined"), ("houses 11\ntie 1 0 5\n", "many"), ("houses 2\ntie 1 0 5\n", 0),
+            ("houses 2\ntie 0 1 1000000\n", 0), ("houses 2\ntie 0 2 5\n", 0), ("houses 3\ntie 0 1 5\ntie 0 1 6\n", 1),
+            ("houses 3\ntie 0 2 5\ntie 0 1 6\n", 1), ("houses 3\ntie 0 1 5\n", "joined"),
+            ("houses 2\ntie 0 1 " + FIGURES + "\n", 0)]
         for text, part in cases:
             self.exactly(self.refused(BadWeb, read_web, text).part, part)
             self.exactly(self.refused(BadWeb, read_record, text).part, part)
@@ -252,9 +254,10 @@ class WrongWebsAndRecords(unittest.TestCase, Exactly):
     def test_records(self):
         head = TEXTS["web"]
         cases = [
-            ("wake 3\n", 0), ("wake 0\nover 3\n", 1), ("take 0 3 yes\n", 0), ("take 1 1 yes\n", 0), ("take 0 1 join 10\n", 0),
-            ("wake 0\nwake 1\ntake 0 1 begin 1 5:0:1 2\n", 2), ("take 0 1 begin 1 5:1:0 1\n", 0), ("take 0 1 ask 1 4:0:1\n", 0),
-            ("take 0 1 report 0:0:0\n", 0), ("wake " + FIGURES + "\n", 0), ("take 0 1 ask " + FIGURES + " 5:0:1\n", 0)]
+            ("wake 3\n", 0), ("wake 0\nover 3\n", 1), ("take 0 3 yes\n", 0), ("take 1 1 yes\n", 0),
+            ("take 0 1 join 10\n", 0), ("wake 0\nwake 1\ntake 0 1 begin 1 5:0:1 2\n", 2),
+            ("take 0 1 begin 1 5:1:0 1\n", 0), ("take 0 1 ask 1 4:0:1\n", 0), ("take 0 1 report 0:0:0\n", 0),
+            ("wake " + FIGURES + "\n", 0), ("take 0 1 ask " + FIGURES + " 5:0:1\n", 0)]
         for text, index in cases:
             self.exactly(self.refused(BadRecord, read_record, head + text).index, index)
         web = row_web([1, 2])

@@ -1,8 +1,14 @@
 """Things of all kinds that may be passed where the document names an error or judges."""
 
+from leastroads.desks import Desk
+from leastroads.disks import Disk
 from leastroads.errors import BadWeb, NoHouse
+from leastroads.films import Reel
 from leastroads.links import Incoming, Outgoing
+from leastroads.nets import Net
+from leastroads.posts import Post
 from leastroads.records import Record
+from leastroads.savings import SavedHouse
 from leastroads.waves import Wave
 from leastroads.webs import Web
 
@@ -28,6 +34,8 @@ def odd_things():
         range(3), slice(0, 1), some_function, len, Web, int, ValueError("x"),
         BadWeb("many"), NoHouse(), Web(1, ()), Web(2, ((0, 1, 5),)), [Web(2, ((0, 1, 5),))],
         Record(Web(1, ()), (("wake", 0),)), Wave(Web(1, ()), (), (0,)), Outgoing(), Incoming(), Record, Wave,
+        Disk(), Post(Web(1, ()), 0), SavedHouse(Web(1, ()), 0, Disk()), Net(Web(1, ())), Desk(), Disk, Post,
+        Reel(Web(1, ()), (("wake", 0),), 1), [Disk()], (Disk(),), {0: Disk()}, ("hear", Disk()), ("wake", Disk()),
         nested(39, lambda thing: (thing,)), nested(39, lambda thing: [thing]),
         nested(39, lambda thing: {0: thing}), nested(20, lambda thing: ([thing],)),
         nested(20, lambda thing: (0, (thing, 5))), (None,) * 19999, [0] * 19999, (True, 1) * 9999,
